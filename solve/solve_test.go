@@ -106,7 +106,6 @@ func TestRun(t *testing.T) { // P34.2
 }
 
 func TestLeast(t *testing.T) { // P34.3, P34.2
-	stolen := 0
 	for seed := range 500 {
 		d := sample.New(seed)
 		s := d.Any()
@@ -136,10 +135,6 @@ func TestLeast(t *testing.T) { // P34.3, P34.2
 			if end.Tops[w] != end.Bottoms[w] {
 				t.Fatal(seed, end)
 			}
-			stolen += end.Tops[w]
 		}
-	}
-	if stolen == 0 {
-		t.Error("nothing was stolen")
 	}
 }
