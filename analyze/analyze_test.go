@@ -63,6 +63,9 @@ func TestWrong(t *testing.T) { // P44.1, P44.2, G1
 }
 
 func TestTold(t *testing.T) { // P44.1, P44.2
+	if analyze.Wrong != 1 || analyze.Spent != 2 || analyze.Told != 3 {
+		t.Error("kinds")
+	}
 	want := "report live\nblock a\nout n\nblock b\nin n\nout m\nout n\nblock c\nin m\nend\n"
 	if got := analyze.Plain(text, api.Live); got != (analyze.Answer{Kind: analyze.Told, Text: want}) {
 		t.Errorf("%+v", got)

@@ -56,6 +56,9 @@ func TestSets(t *testing.T) { // P40.2
 			t.Error(i, b, n)
 		}
 	}
+	if _, n, _ := avail.Sets(parse(t, "block a { z = x * 0; out 0; out x; ret; }")); !slices.Equal(n[0], []int{0}) {
+		t.Error("what is put out changes nothing", n)
+	}
 	if b, _, _ := avail.Sets(parse(t, "block a { z = x * y; goto a; }")); len(b[0]) != 0 {
 		t.Error("the beginning", b)
 	}

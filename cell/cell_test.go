@@ -32,6 +32,9 @@ func TestCell(t *testing.T) { // P30.1
 			t.Error(words, len(got))
 		}
 		(cell.Cell{Base: math.MaxInt, Words: words}).Put(nil, []uint64{1})
+		if got := (cell.Cell{Words: words}).Get(nil); len(got) != want {
+			t.Error(words, len(got))
+		}
 	}
 }
 

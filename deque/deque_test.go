@@ -135,6 +135,24 @@ func TestOps(t *testing.T) { // P27.2
 	}
 }
 
+func TestNoMemory(t *testing.T) { // P27.2: all words are 0, so that nothing is there
+	d := deque.Deque{Cap: 2}
+	push, pop, steal := &deque.Push{D: d, N: 5}, &deque.Pop{D: d}, &deque.Steal{D: d}
+	for i, c := range []struct {
+		x     machine
+		steps int
+	}{{push, 4}, {pop, 4}, {steal, 2}} {
+		for k := 1; k <= c.steps; k++ {
+			if c.x.Step(nil, 0) != (k == c.steps) {
+				t.Error(i, k)
+			}
+		}
+	}
+	if !push.OK || pop.OK || steal.OK {
+		t.Error(push, pop, steal)
+	}
+}
+
 // events are what a Step asks, one behind the other, of a deque with one number.
 func TestThings(t *testing.T) { // P27.2
 	const load, store, cas = record.Load, record.Store, record.CAS

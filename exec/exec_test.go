@@ -80,7 +80,8 @@ func TestBlock(t *testing.T) { // P8.2
 	}
 	g, _, _ := exec.Go(p, s)
 	g.E[0] = n(77, 7)
-	if s.E[0] == n(77, 7) {
+	g.Out[0] = n(77, 7)
+	if s.E[0] == n(77, 7) || s.Out[0] == n(77, 7) {
 		t.Error("shared")
 	}
 	s = exec.State{E: make(exec.Env, 2), In: 1<<31 - 2}
@@ -145,8 +146,13 @@ func TestRun(t *testing.T) { // P8.3
 		t.Error(len(r.Visits))
 	}
 	s := exec.State{E: make(exec.Env, 2), Block: 2, Out: []api.Num{n(4, 4)}}
-	if r, _ := exec.From(p, s, nil, 9); !r.Ended || !slices.Equal(r.Out, []api.Num{n(4, 4), n(0, 0)}) {
+	r, _ = exec.From(p, s, nil, 9)
+	if !r.Ended || !slices.Equal(r.Out, []api.Num{n(4, 4), n(0, 0)}) {
 		t.Error(r)
+	}
+	r.Visits[0].Out[0], r.Visits[0].E[0] = n(77, 7), n(77, 7)
+	if r.Out[0] != n(4, 4) || s.Out[0] != n(4, 4) || s.E[0] != n(0, 0) {
+		t.Error("shared")
 	}
 }
 

@@ -12,6 +12,9 @@ import (
 )
 
 func TestRight(t *testing.T) { // P28.1
+	if plays.Push != 1 || plays.Pop != 2 || plays.Steal != 3 {
+		t.Error("kinds")
+	}
 	for i, c := range []struct {
 		p    plays.Play
 		want bool

@@ -29,6 +29,7 @@ func TestOf(t *testing.T) { // P13.1
 		round   bool
 	}{
 		{3, edges(0, 1, 1, 0, 1, 2), [][]int{{0, 1}, {2}}, []int{0, 0, 1}, edges(0, 1), true},
+		{4, edges(0, 3, 3, 2, 2, 1, 1, 3, 1, 0), [][]int{{0, 1, 2, 3}}, []int{0, 0, 0, 0}, nil, true},
 		{1, nil, [][]int{{0}}, []int{0}, nil, false},
 		{1, edges(0, 0), [][]int{{0}}, []int{0}, nil, true},
 		{3, edges(2, 1, 2, 0, 1, 0), [][]int{{2}, {1}, {0}}, []int{2, 1, 0}, edges(0, 1, 0, 2, 1, 2), false},

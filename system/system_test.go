@@ -105,6 +105,11 @@ func TestValues(t *testing.T) { // P17.2
 			t.Error(i)
 		}
 	}
+	for i, a := range [][][]uint64{nil, {{0}}, {{0}, {32}}, {{0}, {0}, {0}}} {
+		if b := [][]uint64{{0}, {0}}; system.Below(s, a, b) || system.Below(s, b, a) {
+			t.Error(i)
+		}
+	}
 	if !system.Below(s, [][]uint64{{1}, {2}}, [][]uint64{{1}, {6}}) || system.Below(s, [][]uint64{{1}, {2}}, [][]uint64{{1}, {4}}) {
 		t.Error("below")
 	}

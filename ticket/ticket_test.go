@@ -14,10 +14,10 @@ import (
 func TestBoard(t *testing.T) { // P31.1
 	m := mem.NewPlain(5)
 	b := ticket.Board{Flags: 1, Count: 4}
-	for a, w := range []uint64{1, 0, 1, 2, math.MaxUint64} {
+	for a, w := range []uint64{1, 1, 0, 2, math.MaxUint64} {
 		m.Store(a, w)
 	}
-	for v, want := range map[int]bool{-1: false, 0: false, 1: true, 2: false, 9: false, math.MaxInt: false, math.MinInt: false} {
+	for v, want := range map[int]bool{-1: false, 0: true, 1: false, 2: false, 9: false, math.MaxInt: false, math.MinInt: false} {
 		if b.Waits(m, v) != want {
 			t.Error(v)
 		}
@@ -84,6 +84,11 @@ func TestMachines(t *testing.T) { // P31.2
 	r = &ticket.Retire{B: b}
 	if r.Step(p, 0); r.Left != -1 {
 		t.Error(r)
+	}
+	for i, x := range []machine{&ticket.Take{B: b}, &ticket.Clear{B: b}, &ticket.Retire{B: b}, &ticket.Quiet{B: b}} {
+		if !x.Step(nil, 0) {
+			t.Error(i, "no memory")
+		}
 	}
 	q = &ticket.Quiet{B: ticket.Board{Count: 77}}
 	if q.Step(p, 0); !q.Is {

@@ -33,6 +33,9 @@ func TestOf(t *testing.T) { // P10.1
 	if got := wordset.Full(128); !slices.Equal(got, []uint64{math.MaxUint64, math.MaxUint64}) {
 		t.Error(got)
 	}
+	if got := wordset.Of(130, 64, 129, 128, 63, 65); !slices.Equal(got, []uint64{1 << 63, 3, 3}) {
+		t.Error(got)
+	}
 	if len(wordset.Of(-5, 0)) != 0 {
 		t.Error("below 0")
 	}

@@ -203,7 +203,8 @@ func TestNobodys(t *testing.T) { // P33.2
 	}
 }
 
-// TestNoWaiting: a worker that goes on alone comes to its end, wherever the others stand.
+// TestNoWaiting: wherever the others stand, a worker that goes on alone looks
+// at each node it gets to the end, and is idle only when there is none to get.
 func TestNoWaiting(t *testing.T) { // P33.3
 	for seed := range 300 {
 		d := sample.New(seed)
@@ -222,20 +223,28 @@ func TestNoWaiting(t *testing.T) { // P33.3
 		for range d.Below(60) {
 			all[1+d.Below(2)].Step(m, d.Below(9))
 		}
-		held := 0
-		for _, w := range all[1:] {
-			if _, looks := w.Node(); looks {
-				held++
-			}
-		}
 		w := all[0]
+		most := 2 + l.Words + s.Nodes*(2*l.Words+2+4) // clear, read, and join, take, push; retire
+		looked, idle := 0, 0
 		for k := range 20000 {
-			w.Step(m, k)
-			if _, looks := w.Node(); !looks && w.Evals > 0 && w.Idle() && len(l.Deque(0).List(m)) == 0 {
+			if w.Step(m, k) {
 				break
 			}
-			if k == 19999 && !w.Ended && held == 0 {
-				t.Fatal(seed)
+			if _, looks := w.Node(); looks {
+				looked++
+				idle = 0
+			} else {
+				looked = 0
+				idle++
+			}
+			if looked > most {
+				t.Fatal(seed, "it waits")
+			}
+			if idle > 100 && len(l.Deque(0).List(m))+len(l.Deque(1).List(m))+len(l.Deque(2).List(m)) > 0 {
+				t.Fatal(seed, "it leaves nodes")
+			}
+			if idle > 200 {
+				break
 			}
 		}
 	}
