@@ -67,7 +67,7 @@ func TestFill(t *testing.T) { // P34.1
 			t.Error(i, e)
 		}
 	}
-	if len(solve.Values(nil, layout.Layout{})) != 0 || len(solve.Values(nil, layout.Layout{Nodes: -4, Words: 3})) != 0 {
+	if len(solve.Values(nil, layout.Layout{Nodes: 1 << 62, Words: 9})) != 0 || len(solve.Values(nil, layout.Layout{})) != 0 || len(solve.Values(nil, layout.Layout{Nodes: -4, Words: 3})) != 0 {
 		t.Error("no layout")
 	}
 	if v := solve.Values(nil, layout.Layout{Nodes: 2, Words: 1}); !least.Same(v, [][]uint64{{0}, {0}}) {
