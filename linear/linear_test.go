@@ -102,6 +102,14 @@ func TestFind(t *testing.T) { // P29.2
 	if o, is, e := linear.Find(append(hard, steal(99)), 12); o != nil || is || e != api.OK {
 		t.Error(o, is, e)
 	}
+	late := op(plays.Pop, 0, 20, 25, false)
+	if o, is, e := linear.Find(append(hard[:11:11], late), 12); o != nil || is || e != api.OK {
+		t.Error(o, is, e)
+	}
+	full := op(plays.Push, 5, 20, 25, false)
+	if o, is, e := linear.Find(append(hard[:11:11], full), 12); o != nil || is || e != api.OK {
+		t.Error(o, is, e)
+	}
 	found := 0
 	for seed := range 600 {
 		d := sample.New(seed)
