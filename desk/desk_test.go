@@ -9,6 +9,7 @@ import (
 	"sough/analyze"
 	"sough/api"
 	"sough/desk"
+	"sough/exec"
 	"sough/fair"
 	"sough/fold"
 	"sough/gauss"
@@ -134,6 +135,38 @@ func TestLines(t *testing.T) { // P50.3
 	l := desk.Play(text, []string{"fold", "sweep", "merge", "print"})
 	if !strings.HasPrefix(l[3], "block a {\n\tout 3;\n") {
 		t.Error(l)
+	}
+}
+
+func TestRuns(t *testing.T) { // P50.3
+	for seed := range 60 {
+		d := sample.New(seed)
+		p := d.Program(1+d.Below(4), 5, 1+d.Below(3))
+		s, _ := printer.Program(p)
+		in := d.Nums(4)
+		words := ""
+		for _, n := range in {
+			words += " " + gauss.Text(n)
+		}
+		for _, most := range []int{0, 1, 15, 16, 17, 31, 32, 33, 300} {
+			r, _ := exec.All(p, in, most)
+			want := "out"
+			for _, n := range r.Out {
+				want += " " + gauss.Text(n)
+			}
+			if r.Ended {
+				want += " ended"
+			} else {
+				want += " stopped"
+			}
+			if got := desk.New(s).Do("run " + strconv.Itoa(most) + words); got != want {
+				t.Fatal(seed, most, got, want)
+			}
+		}
+	}
+	long := desk.New("block a {" + strings.Repeat("out 1;", api.MaxStmts) + "goto a; }").Do("run 999999")
+	if len(long) != len("out stopped")+2*api.MaxStmts*api.MaxTrips {
+		t.Error(len(long))
 	}
 }
 

@@ -50,6 +50,30 @@ func TestLast(t *testing.T) { // P9.1
 	}
 }
 
+func TestLong(t *testing.T) { // P9.1: what is put out is much more than what is told
+	p := api.Program{L: []api.Block{{Name: "a", L: make([]api.Stmt, api.MaxStmts), T: api.Term{Kind: api.EndGoto, To: "a"}}}}
+	for i := range p.L[0].L {
+		p.L[0].L[i] = api.Stmt{Kind: api.StOut}
+	}
+	p.L[0].L[0] = api.Stmt{Kind: api.StIn, Var: "x"}
+	l, e := trips.Last(p, nil, 1<<40)
+	k, e2 := trips.Known(p, nil, 1<<40)
+	if e != api.OK || e2 != api.OK || len(l) != api.MaxTrips || len(k) != api.MaxTrips || l[0][0] != 0 || l[1][0] != 1 || l[4095][0] != 1 {
+		t.Error(len(l), len(k), e, e2)
+	}
+	for seed := range 40 {
+		d := sample.New(seed)
+		p := d.Program(1+d.Below(4), 5, 2)
+		for _, most := range []int{-1, 0, 1, 15, 16, 17, 32, 33, 100} {
+			r, _ := exec.All(p, nil, most)
+			l, _ := trips.Last(p, nil, most)
+			if len(l) != len(r.Visits) {
+				t.Fatal(seed, most, len(l), len(r.Visits))
+			}
+		}
+	}
+}
+
 func TestKnown(t *testing.T) { // P9.1
 	// exprs: x * 2 is 0, x - 1 is 1.
 	for s, want := range map[string][][]int{
