@@ -110,11 +110,23 @@ func TestFind(t *testing.T) { // P29.2
 	if o, is, e := linear.Find(append(hard[:11:11], full), 12); o != nil || is || e != api.OK {
 		t.Error(o, is, e)
 	}
+	turned := []api.Op{push(1), push(2), op(plays.Steal, 2, 10, 12, true), op(plays.Steal, 1, 20, 22, true)}
+	if o, is, e := linear.Find(turned, 12); !slices.Equal(o, []int{1, 0, 2, 3}) || !is || e != api.OK {
+		t.Error(o, is, e)
+	}
+	turned = []api.Op{push(3), op(plays.Steal, 2, 10, 12, true), push(2), op(plays.Pop, 3, 10, 12, true)}
+	if o, is, e := linear.Find(turned, 12); !slices.Equal(o, []int{2, 0, 1, 3}) || !is || e != api.OK {
+		t.Error(o, is, e)
+	}
+	turned = []api.Op{push(1), push(3), push(2), op(plays.Steal, 2, 10, 12, true), op(plays.Steal, 3, 20, 22, true), op(plays.Steal, 1, 30, 32, true)}
+	if o, is, e := linear.Find(turned, 12); !slices.Equal(o, []int{2, 1, 0, 3, 4, 5}) || !is || e != api.OK {
+		t.Error(o, is, e)
+	}
 	found := 0
-	for seed := range 600 {
+	for seed := range 2000 {
 		d := sample.New(seed)
 		var l []api.Op
-		for range d.Below(6) {
+		for range d.Below(7) {
 			o := op(1+d.Below(3), d.Below(3), 1+d.Below(6), 0, false)
 			if d.Below(4) > 0 {
 				o.Ended = o.Began + d.Below(5)
@@ -135,7 +147,7 @@ func TestFind(t *testing.T) { // P29.2
 			found++
 		}
 	}
-	if found < 50 || found > 550 {
+	if found < 200 || found > 1800 {
 		t.Error(found)
 	}
 }

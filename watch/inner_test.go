@@ -47,6 +47,7 @@ func TestFaults(t *testing.T) { // P36.2: what First finds, if there is somethin
 		{1, 4, 1 << 63, 1, true}, // fewer than none
 		{1, 5, 0, 1, true},       // a top of 0
 		{1, 6, 9, 1, true},       // a deque that is too full
+		{6, 1, 0, 11, true},      // a cell goes down to where it began
 	} {
 		w, e := open(pair(), 1)
 		if e != api.OK {
