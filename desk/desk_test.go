@@ -65,20 +65,20 @@ func TestTell(t *testing.T) { // P50.2
 		t.Error(p, f)
 	}
 	for _, line := range []string{"print", "", "  ", "tidy", "none"} {
-		if got := bad.Do(line); got != "error 4 15" {
+		if got := bad.Do(line); got != "error 4 15\n" {
 			t.Error(line, got)
 		}
 	}
 	var none *desk.Desk
 	for i, d := range []*desk.Desk{none, new(desk.Desk)} {
-		if p, f := d.Tell(); f != (api.Fault{E: api.ErrNil}) || len(p.L) != 0 || d.Do("print") != "error 14 0" || d.Do("") != "error 14 0" {
+		if p, f := d.Tell(); f != (api.Fault{E: api.ErrNil}) || len(p.L) != 0 || d.Do("print") != "error 14 0\n" || d.Do("") != "error 14 0\n" {
 			t.Error(i, p, f)
 		}
 	}
-	if l := desk.Play(square, []string{"run 5 (0,1)", "nothing", "weight"}); !slices.Equal(l, []string{"out -1 ended", "what", "7"}) {
+	if l := desk.Play(square, []string{"run 5 (0,1)", "nothing", "weight"}); !slices.Equal(l, []string{"out -1 ended\n", "what\n", "7\n"}) {
 		t.Error(l)
 	}
-	if l := desk.Play("", []string{"a", "b"}); !slices.Equal(l, []string{"error 3 0", "error 3 0"}) || len(desk.Play(square, nil)) != 0 {
+	if l := desk.Play("", []string{"a", "b"}); !slices.Equal(l, []string{"error 3 0\n", "error 3 0\n"}) || len(desk.Play(square, nil)) != 0 {
 		t.Error(l)
 	}
 }
@@ -89,20 +89,20 @@ func TestLines(t *testing.T) { // P50.3
 	script := fair.Text(fair.Round(2, 3000))
 	for line, want := range map[string]string{
 		"print":                   printed,
-		"weight":                  strconv.Itoa(tidy.Weight(p)),
+		"weight":                  strconv.Itoa(tidy.Weight(p)) + "\n",
 		"report live":             analyze.PlainOf(p, api.Live).Text,
 		"report const":            analyze.PlainOf(p, api.Const).Text,
 		"solve reach 2 " + script: analyze.PlainOf(p, api.Reach).Text,
-		"solve avail 2":           "spent",
-		"solve avail 2 0:0 -1:5":  "spent",
-		"solve avail 0":           "wrong",
-		"solve avail 65 0:0":      "wrong",
-		"run 9 0 0 7":             "out 3 0 ended",
-		"run 1":                   "out 3 stopped",
-		"run 0":                   "out stopped",
-		"run 3 (5,5)":             "out 3 (5,5) ended",
-		"run 2 5":                 "out 3 stopped",
-		"run 999999":              "out 3 0 ended",
+		"solve avail 2":           "spent\n",
+		"solve avail 2 0:0 -1:5":  "spent\n",
+		"solve avail 0":           "wrong\n",
+		"solve avail 65 0:0":      "wrong\n",
+		"run 9 0 0 7":             "out 3 0 ended\n",
+		"run 1":                   "out 3 stopped\n",
+		"run 0":                   "out stopped\n",
+		"run 3 (5,5)":             "out 3 (5,5) ended\n",
+		"run 2 5":                 "out 3 stopped\n",
+		"run 999999":              "out 3 0 ended\n",
 	} {
 		if got := desk.New(text).Do(line); got != want {
 			t.Errorf("%.40q: %q, want %q", line, got, want)
@@ -111,7 +111,7 @@ func TestLines(t *testing.T) { // P50.3
 	d := desk.New(text)
 	for _, line := range []string{"", " ", "print ", " print", "Print", "print print", "report", "report none", "report live live", "report  live", "solve", "solve live", "solve none 2", "solve live x", "solve live 01", "solve live 1000000",
 		"solve live 2 0", "solve live 2 0:0,1:1", "solve live 2 00:1", "solve 2", "run", "run x", "run 01", "run 5 x", "run 5 05", "run 5 (1,0)", "run -1", "run 5  5", "fold fold", "weight 1", "tidy 5", "print\n", "print\t", "nothing"} {
-		if got := d.Do(line); got != "what" {
+		if got := d.Do(line); got != "what\n" {
 			t.Errorf("%q: %q", line, got)
 		}
 	}
@@ -128,7 +128,7 @@ func TestLines(t *testing.T) { // P50.3
 		d := desk.New(text)
 		answer := d.Do(line)
 		q, _ := d.Tell()
-		if want := f(p); answer != "ok" || !proper.Same(q, want) || proper.Same(q, p) {
+		if want := f(p); answer != "ok\n" || !proper.Same(q, want) || proper.Same(q, p) {
 			t.Error(line, answer)
 		}
 	}
@@ -155,9 +155,9 @@ func TestRuns(t *testing.T) { // P50.3
 				want += " " + gauss.Text(n)
 			}
 			if r.Ended {
-				want += " ended"
+				want += " ended\n"
 			} else {
-				want += " stopped"
+				want += " stopped\n"
 			}
 			if got := desk.New(s).Do("run " + strconv.Itoa(most) + words); got != want {
 				t.Fatal(seed, most, got, want)
@@ -165,8 +165,33 @@ func TestRuns(t *testing.T) { // P50.3
 		}
 	}
 	long := desk.New("block a {" + strings.Repeat("out 1;", api.MaxStmts) + "goto a; }").Do("run 999999")
-	if len(long) != len("out stopped")+2*api.MaxStmts*api.MaxTrips {
+	if len(long) != len("out stopped\n")+2*api.MaxStmts*api.MaxTrips {
 		t.Error(len(long))
+	}
+}
+
+// number reads an answer of one line of digits.
+func number(answer string) (int, bool) {
+	digits, is := strings.CutSuffix(answer, "\n")
+	n, read := desk.Int(digits)
+	return n, is && read
+}
+
+func TestFeeds(t *testing.T) { // P50.3
+	script := fair.Text(fair.Round(2, 3000))
+	for _, s := range []string{text, square, "block a { ret; }", "block", ""} {
+		for _, line := range []string{"print", "report live", "report reach", "report avail", "report const", "solve const 2 " + script, "report"} {
+			got := desk.New(s).Do(line)
+			if !strings.HasSuffix(got, "\n") || strings.HasSuffix(got, "\n\n") {
+				t.Errorf("%q, %.20q: %q", s, line, got)
+			}
+		}
+		for _, line := range []string{"solve live 2", "solve live 0", "run 5 1 2", "run 0", "fold", "prune", "sweep", "merge", "tidy", "weight", "none", "", " "} {
+			got := desk.New(s).Do(line)
+			if strings.Index(got, "\n") != len(got)-1 || strings.HasPrefix(got, "\n") {
+				t.Errorf("%q, %q: %q", s, line, got)
+			}
+		}
 	}
 }
 
@@ -181,15 +206,15 @@ func TestSame(t *testing.T) { // P50.4
 			run += " " + gauss.Text(n)
 		}
 		want := d.Do(run)
-		weight, _ := desk.Int(d.Do("weight"))
+		weight, _ := number(d.Do("weight"))
 		for range 4 {
-			if got := d.Do(changes[dice.Below(5)]); got != "ok" {
+			if got := d.Do(changes[dice.Below(5)]); got != "ok\n" {
 				t.Fatal(seed, got)
 			}
-			if got := d.Do(run); strings.HasSuffix(want, "ended") && got != want {
+			if got := d.Do(run); strings.HasSuffix(want, "ended\n") && got != want {
 				t.Fatal(seed, got, want)
 			}
-			lighter, is := desk.Int(d.Do("weight"))
+			lighter, is := number(d.Do("weight"))
 			if !is || lighter > weight {
 				t.Fatal(seed, lighter, weight)
 			}
